@@ -281,7 +281,7 @@ func TestBothEndFromFull(t *testing.T) {
 	done := map[*moves.Pair]bool{}
 	thrown(t, 3000, 250, func(p *moves.Pair, c call, after func() answer) {
 		after()
-		if len(p.Flight()) == api.MaxFlight && !done[p] {
+		if len(done) < 40 && len(p.Flight()) == api.MaxFlight && !done[p] {
 			done[p] = true
 			ended(t, p)
 		}
