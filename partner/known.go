@@ -39,18 +39,14 @@ func (p known) fits(m api.Message) bool {
 		(!p.placed() || m.Reg == p.Reg)
 }
 
-// message is its message of a kind.
-func (p known) message(kind int) api.Message {
-	m := api.Message{Kind: kind, From: p.node, To: p.Act.Node, Act: p.Act, Part: p.number}
-	if p.placed() {
-		m.Reg = p.Reg
-	}
-	return m
+// message is its message of a kind, with a Reg: its own may be none yet.
+func (p known) message(kind, reg int) api.Message {
+	return api.Message{Kind: kind, From: p.node, To: p.Act.Node, Act: p.Act, Reg: reg, Part: p.number}
 }
 
 // register is the Register of one that isn't placed.
 func (p known) register() api.Message {
-	m := p.message(api.Register)
+	m := p.message(api.Register, 0)
 	m.Protocol = p.Seat.Protocol
 	return m
 }
@@ -73,19 +69,12 @@ func (p known) turns(seat moves.Seat) facts.Fact {
 	return facts.Fact{Kind: facts.Turned, Part: p.number, State: seat.State, How: seat.How}
 }
 
-// places is the fact that it is placed as a registration, and whether there may be one of this number: there is no row for any other.
-func (p known) places(reg int) (facts.Fact, bool) {
-	f := facts.Fact{Kind: facts.Placed, Part: p.number, Reg: reg}
-	return f, f.Right()
-}
-
-// registered is what comes of a Registered that fits.
-func (p known) registered(m api.Message) Result {
-	f, right := p.places(m.Reg)
-	if p.placed() || !right {
-		return Result{}
+// places is the fact that it is placed, if it isn't yet. Whether there may be such a registration isn't asked here: that is told by who applies the fact.
+func (p known) places(reg int) []facts.Fact {
+	if p.placed() {
+		return nil
 	}
-	return Result{Facts: []facts.Fact{f}}
+	return []facts.Fact{{Kind: facts.Placed, Part: p.number, Reg: reg}}
 }
 
 // refused is what comes of a Fault that fits.
@@ -102,33 +91,24 @@ func (p known) refused(m api.Message) Result {
 
 // told is what comes of a kind that goes Down, and fits.
 func (p known) told(m api.Message) Result {
-	var list []facts.Fact
-	if !p.placed() {
-		f, right := p.places(m.Reg)
-		if !right {
-			return answer(m, api.Fault, api.InvalidParameters)
-		}
-		list = append(list, f)
-		p.Reg = m.Reg
-	}
 	// The seats of a store are right, so that there is no error.
 	e, _ := p.Seat.Tell(m.Kind)
-	r := p.result(e)
-	r.Facts = append(list, r.Facts...)
+	r := p.result(e, m.Reg)
+	r.Facts = append(p.places(m.Reg), r.Facts...)
 	if e.Fault != 0 {
 		r.Send = append(r.Send, letter.Answer(m, api.Fault, e.Fault))
 	}
 	return r
 }
 
-// result is what comes of its seat's effect.
-func (p known) result(e moves.Effect) Result {
+// result is what comes of its seat's effect; what is sent has this Reg.
+func (p known) result(e moves.Effect, reg int) Result {
 	r := Result{Work: e.Work}
 	if e.Changed {
 		r.Facts = append(r.Facts, p.turns(e.Seat))
 	}
 	if e.Send != 0 {
-		r.Send = append(r.Send, p.message(e.Send))
+		r.Send = append(r.Send, p.message(e.Send, reg))
 	}
 	return r
 }

@@ -190,7 +190,9 @@ func TestThrown(t *testing.T) {
 				sends(t, s, number)
 			}
 			still()
-			apply(t, s, r.Facts...)
+			if knowable(r.Facts) {
+				apply(t, s, r.Facts...)
+			}
 		}
 	}
 	for _, what := range []string{"Join", "Do", "Tell 0 0", "Tell 0 1", "Tell 1 0", "Tell 1 1", "Tell 2 0"} {

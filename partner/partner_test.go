@@ -394,11 +394,12 @@ func TestTellRegistered(t *testing.T) {
 		told(t, "Registered as another one", s, m, none)
 	}
 	for _, reg := range strange() {
-		if reg != 4 && reg != 5 {
-			m := to(api.Registered)
-			m.Reg = reg
-			told(t, "Registered as one that there can't be", parts(t, api.PC), m, none)
-		}
+		m := to(api.Registered)
+		m.Reg = reg
+		told(t, "Registered, whatever Reg is", parts(t, api.PC), m, partner.Result{Facts: []facts.Fact{placed(0, reg)}})
+		s := parts(t, api.PC)
+		apply(t, s, placed(0, 2))
+		told(t, "Registered of one that is placed, whatever Reg is", s, m, none)
 	}
 }
 
@@ -550,15 +551,43 @@ func strangeness(m api.Message) partner.Result {
 	return partner.Result{Send: []api.Message{{Kind: api.Fault, From: m.To, To: m.From, Act: m.Act, Reg: m.Reg, Part: m.Part, Code: api.InvalidParameters}}}
 }
 
-// TestTellOfNoRegistration is of one that isn't placed, and can't be so.
+// TestTellOfNoRegistration is of one that isn't placed, and told as a registration that there can't be: it fits all the same.
 func TestTellOfNoRegistration(t *testing.T) {
-	s := parts(t, api.CC)
-	for _, reg := range []int{-1, 6, 7, 256, 1 << 32, 1<<32 + 3, math.MaxInt, math.MinInt} {
-		for _, kind := range []int{api.Complete, api.Close, api.Cancel, api.Compensate, api.Failed, api.Exited, api.NotCompleted} {
-			m := to(kind)
+	for _, reg := range []int{-1, -2, 6, 7, 255, 256, 1 << 32, 1<<32 + 3, 1 << 40, math.MaxInt, math.MinInt} {
+		as := func(m api.Message) api.Message {
 			m.Reg = reg
-			told(t, "no registration", s, m, strangeness(m))
+			return m
 		}
+		for _, c := range []struct {
+			what                  string
+			protocol, state, kind int
+			want                  partner.Result // behind the Placed
+		}{
+			{"work", api.CC, api.Active, api.Complete, partner.Result{Facts: []facts.Fact{turned(0, api.Completing, 0)}, Work: api.Complete}},
+			{"work", api.PC, api.Active, api.Cancel, partner.Result{Facts: []facts.Fact{turned(0, api.Canceling, 0)}, Work: api.Cancel}},
+			{"work", api.PC, api.Completed, api.Close, partner.Result{Facts: []facts.Fact{turned(0, api.Closing, 0)}, Work: api.Close}},
+			{"work", api.CC, api.Completed, api.Compensate, partner.Result{Facts: []facts.Fact{turned(0, api.Compensating, 0)}, Work: api.Compensate}},
+			{"its end", api.PC, api.FailingActive, api.Failed, partner.Result{Facts: []facts.Fact{turned(0, api.Ended, api.Fail)}}},
+			{"its end", api.PC, api.Exiting, api.Exited, partner.Result{Facts: []facts.Fact{turned(0, api.Ended, api.Exit)}}},
+			{"its end", api.CC, api.NotCompleting, api.NotCompleted, partner.Result{Facts: []facts.Fact{turned(0, api.Ended, api.CannotComplete)}}},
+			{"what is ignored", api.PC, api.Canceling, api.Cancel, none},
+			{"what it sends again", api.PC, api.Completed, api.Cancel, partner.Result{Send: []api.Message{as(from(api.IsCompleted))}}},
+			{"what it sends again", api.CC, api.FailingCompensating, api.Compensate, partner.Result{Send: []api.Message{as(from(api.Fail))}}},
+			{"a fault", api.PC, api.Active, api.Complete, partner.Result{Send: []api.Message{coded(as(from(api.Fault)), api.InvalidProtocol)}}},
+			{"a fault", api.PC, api.Active, api.Close, partner.Result{Send: []api.Message{coded(as(from(api.Fault)), api.InvalidState)}}},
+		} {
+			s := parts(t, c.protocol)
+			apply(t, s, turned(0, c.state, 0))
+			c.want.Facts = append([]facts.Fact{placed(0, reg)}, c.want.Facts...)
+			told(t, c.what, s, as(to(c.kind)), c.want)
+			// One that is placed isn't placed as that.
+			told(t, "one that is placed", one(t, c.protocol, c.state), as(to(c.kind)), strangeness(as(to(c.kind))))
+		}
+		s := parts(t, api.PC)
+		told(t, "GetStatus", s, as(to(api.GetStatus)), partner.Result{Send: []api.Message{coded(as(from(api.Status)), api.Active)}})
+		told(t, "Fault", s, as(fault(api.CannotRegister)), partner.Result{Facts: []facts.Fact{turned(0, api.Ended, api.Exit)}})
+		apply(t, s, turned(0, api.Ended, api.Closed))
+		told(t, "one that has ended", s, as(to(api.Close)), partner.Result{Facts: []facts.Fact{placed(0, reg)}, Send: []api.Message{as(from(api.Closed))}})
 	}
 }
 

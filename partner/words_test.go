@@ -129,17 +129,16 @@ func reply(m api.Message, kind, code int) api.Message {
 	return api.Message{Kind: kind, From: m.To, To: m.From, Act: m.Act, Reg: m.Reg, Part: m.Part, Code: code}
 }
 
-// wordsTell is what comes of Tell. No participant can be placed as a registration of a number that there isn't: no fact says so.
+// wordsTell is what comes of Tell, whatever Reg is: whether there can be such a registration is nothing that fitting asks.
 func wordsTell(s *store.Store, m api.Message) (r partner.Result) {
 	p, there := part(s, m.Part)
 	fits := there && p.Act == m.Act && m.From == p.Act.Node && m.To == s.Node() && (p.Reg == -1 || p.Reg == m.Reg)
 	placing := fits && p.Reg == -1
-	can := m.Reg >= 0 && m.Reg <= 5
 	places := facts.Fact{Kind: 7, Part: m.Part, Reg: m.Reg}
 	strange := partner.Result{Send: []api.Message{reply(m, 19, 3)}}
 	switch {
 	case m.Kind == 18:
-		if placing && can {
+		if placing {
 			r.Facts = []facts.Fact{places}
 		}
 	case m.Kind == 19:
@@ -152,7 +151,7 @@ func wordsTell(s *store.Store, m api.Message) (r partner.Result) {
 		}
 		r.Send = []api.Message{reply(m, 16, p.Seat.State)}
 	case slices.Contains(down, m.Kind):
-		if !fits || placing && !can {
+		if !fits {
 			return strange
 		}
 		if placing {
@@ -190,6 +189,32 @@ func fit(t *testing.T, s *store.Store, list []facts.Fact) *store.Store {
 	return next
 }
 
+// knowable tells whether facts are right: a Placed as no registration is what no store takes.
+func knowable(list []facts.Fact) bool {
+	return !slices.ContainsFunc(list, func(f facts.Fact) bool { return !f.Right() })
+}
+
+// numbered is facts, with the registration 0 for one that there can't be. It fails if another fact isn't right, or if such a Placed is taken by a store.
+func numbered(t *testing.T, s *store.Store, list []facts.Fact) []facts.Fact {
+	t.Helper()
+	list = slices.Clone(list)
+	for i, f := range list {
+		if f.Right() {
+			continue
+		}
+		if f.Kind != 7 || f.Reg >= 0 && f.Reg <= 5 {
+			t.Fatalf("the fact %+v isn't right", f)
+		}
+		still := stays(t, s)
+		if err := s.Apply(f); !is(err, api.ErrForm) {
+			t.Fatalf("Apply of %+v answers %v", f, err)
+		}
+		still()
+		list[i].Reg = 0
+	}
+	return list
+}
+
 // stays is what fails if a store isn't any more as it was when stays was called.
 func stays(t *testing.T, s *store.Store) func() {
 	was := knows(s)
@@ -212,7 +237,7 @@ func tells(t *testing.T, s *store.Store, m api.Message) partner.Result {
 		t.Fatalf("Asked of %+v answers %v", m, got)
 	}
 	if len(got.Facts) > 0 {
-		fit(t, s, got.Facts)
+		fit(t, s, numbered(t, s, got.Facts))
 	}
 	for _, sent := range got.Send {
 		if letter.Right(m) && !letter.Right(sent) {
